@@ -1,0 +1,124 @@
+"""What can be read off the files of the package about the rules of LANGUAGE.md."""
+
+import ast
+import builtins
+import unittest
+from pathlib import Path
+
+PACKAGE = Path(__file__).resolve().parent.parent / "undermasters"
+
+LIBRARY = {
+    "heapq": ("heappush", "heappop", "heapify", "heapreplace", "heappushpop"),
+    "math": ("gcd", "lcm", "isqrt", "comb", "perm", "factorial"),
+    "itertools": ("product", "combinations", "permutations"),
+}
+
+BUILTINS = """
+len range enumerate zip min max sum abs sorted reversed int str bool list tuple dict set isinstance ord repr any all
+divmod map iter next Exception ValueError TypeError KeyError IndexError LookupError ZeroDivisionError ArithmeticError
+OverflowError RuntimeError NotImplementedError AttributeError StopIteration NotImplemented super property staticmethod
+classmethod
+""".split()
+
+METHODS = """
+append clear copy count endswith extend find get index insert isalnum isalpha isdigit islower isspace isupper items
+join keys ljust lower lstrip partition pop remove replace reverse rfind rjust rpartition rsplit rstrip setdefault split
+splitlines startswith strip update upper values zfill bit_length add discard sort
+""".split()
+
+BARRED_NAMES = """
+register mro elements open input law version_info with_traceback add_note attrgetter breakpoint builtins compile
+copyright credits delattr dir eval exec exit gc getattr globals hasattr help id importlib license locals methodcaller
+os quit setattr type vars sys hash format round filter
+""".split()
+
+BARRED_NODES = (
+    ast.Global, ast.AsyncFunctionDef, ast.AsyncFor, ast.AsyncWith, ast.Await, ast.Div, ast.MatMult, ast.Import,
+)
+
+
+def package_files():
+    """The pairs of each file of the package and its text."""
+    return [(path, path.read_text(encoding="utf-8")) for path in sorted(PACKAGE.glob("**/*.py"))]
+
+
+def nodes_of(kind):
+    """The pairs of a file's name and a node of this kind, for all files."""
+    return [(path.name, node) for path, text in package_files() for node in ast.walk(ast.parse(text))
+            if isinstance(node, kind)]
+
+
+def bound_names(node):
+    """The names that the node binds, as a variable, a parameter, a function or a class."""
+    if isinstance(node, ast.Name) and isinstance(node.ctx, ast.Store):
+        return [node.id]
+    if isinstance(node, ast.arg):
+        return [node.arg]
+    return [node.name] if isinstance(node, (ast.FunctionDef, ast.ClassDef)) else []
+
+
+class Form(unittest.TestCase):
+
+    def test_files(self):
+        self.assertTrue((PACKAGE / "__init__.py").exists())
+        for path in PACKAGE.iterdir():
+            if path.name != "__pycache__":
+                self.assertRegex(path.name, r"^[a-z0-9_]+\.py$")
+
+    def test_lines_and_characters(self):
+        for path, text in package_files():
+            lines = text.split("\n")
+            self.assertLessEqual(len(lines), 400, path.name)
+            self.assertLessEqual(max(len(line) for line in lines), 120, path.name)
+            self.assertEqual([c for c in text if c != "\n" and not " " <= c <= "~"], [], path.name)
+
+    def test_size_of_functions(self):
+        for name, node in nodes_of(ast.FunctionDef):
+            self.assertLessEqual(node.end_lineno - node.lineno + 1, 40, (name, node.name))
+
+    def test_imports(self):
+        for name, node in nodes_of(ast.ImportFrom):
+            self.assertEqual(node.level, 0, name)
+            for alias in node.names:
+                if node.module.startswith("undermasters."):
+                    self.assertTrue((PACKAGE / f"{node.module.split('.')[1]}.py").exists(), node.module)
+                    self.assertNotEqual(alias.name, "*", name)
+                else:
+                    self.assertIn(alias.name, LIBRARY[node.module], name)
+                    self.assertIsNone(alias.asname, name)
+
+    def test_statements_and_operators(self):
+        self.assertEqual(nodes_of(BARRED_NODES), [])
+
+    def test_constants(self):
+        for name, node in nodes_of(ast.Constant):
+            self.assertNotIsInstance(node.value, (float, complex), name)
+            if isinstance(node.value, str):
+                self.assertNotIn("%", node.value, name)
+
+    def test_builtins(self):
+        for name, node in nodes_of(ast.Name):
+            if isinstance(node.ctx, ast.Load) and node.id in vars(builtins):
+                self.assertIn(node.id, BUILTINS, (name, node.lineno))
+
+    def test_methods(self):
+        own = [node.name for _, node in nodes_of(ast.FunctionDef)]
+        for name, node in nodes_of(ast.Call):
+            if isinstance(node.func, ast.Attribute):
+                self.assertIn(node.func.attr, METHODS + own + ["__init__"], (name, node.lineno))
+
+    def test_names(self):
+        for name, node in nodes_of((ast.Name, ast.arg, ast.FunctionDef, ast.ClassDef)):
+            for bound in bound_names(node):
+                self.assertNotIn(bound, BARRED_NAMES, (name, node.lineno))
+                self.assertNotIn(bound, vars(builtins), (name, node.lineno))
+
+    def test_is(self):
+        for name, node in nodes_of(ast.Compare):
+            for operator, side in zip(node.ops, node.comparators):
+                if isinstance(operator, (ast.Is, ast.IsNot)):
+                    self.assertIsInstance(side, ast.Constant, (name, node.lineno))
+
+
+if __name__ == "__main__":
+    unittest.main()

@@ -1,0 +1,1 @@
+"""How many rooms can have keys of their own under common keys."""
