@@ -40,6 +40,94 @@ FUNCTIONS = {
         "givers": ["keys", "key"],
         "fewest_makers": ["keys", "key"],
     },
+    "halls": {
+        "is_hall": ["thing"],
+        "door_of": ["hall", "room"],
+        "who_opens": ["hall", "room"],
+        "strangers": ["hall", "room"],
+        "rooms_of": ["hall", "person"],
+        "strange": ["hall"],
+        "is_kept": ["hall"],
+        "with_person": ["hall", "person", "room"],
+        "new_strangers": ["hall", "person", "room"],
+        "closure": ["hall", "names"],
+        "is_closed": ["hall", "names"],
+        "how_many_closed": ["hall"],
+    },
+    "most": {
+        "rank_sizes": ["depths", "common"],
+        "most_rooms": ["depths", "common"],
+        "best_ranks": ["depths", "common"],
+        "most_without_rows": ["depths", "common", "many"],
+        "nth_room": ["depths", "common", "free", "number"],
+        "number_of_room": ["depths", "common", "key"],
+        "rank_rooms": ["depths", "common", "free"],
+        "keys_like": ["depths", "common", "key"],
+        "how_many_of_rank": ["depths", "common", "free"],
+        "one_more_pin": ["depths", "common", "depth"],
+    },
+    "more": {
+        "is_further": ["depths", "common", "own", "key"],
+        "who_bars": ["depths", "common", "own", "key"],
+        "how_many_further": ["depths", "common", "own"],
+        "further_ranks": ["depths", "common", "own"],
+        "nth_further": ["depths", "common", "own", "number"],
+        "number_of_further": ["depths", "common", "own", "key"],
+        "best_addition": ["depths", "common", "own"],
+    },
+    "quiet": {
+        "is_quiet": ["depths", "common", "own"],
+        "clashes": ["depths", "common", "own"],
+        "least_taken_out": ["depths", "common", "own"],
+        "share": ["depths", "common", "own"],
+        "most_more": ["depths", "common", "own"],
+        "is_greatest": ["depths", "common", "own"],
+        "is_full": ["depths", "common", "own"],
+        "share_of_ranks": ["depths", "common", "counts"],
+        "can_be_by_share": ["depths", "common", "counts"],
+        "ranks_of": ["depths", "common", "own"],
+    },
+    "covers": {
+        "most_quiet": ["common", "keys"],
+        "quiet_among": ["common", "keys"],
+        "is_quiet_among": ["common", "keys", "thing"],
+        "cover_rows": ["common", "keys"],
+        "is_opener_row": ["common", "keys", "thing"],
+        "is_row_cover": ["common", "keys", "thing"],
+        "longest_row": ["common", "keys"],
+        "quiet_cover": ["common", "keys"],
+        "is_quiet_cover": ["common", "keys", "thing"],
+        "always_in": ["common", "keys"],
+        "ever_in": ["common", "keys"],
+        "loners": ["common", "keys"],
+    },
+    "private": {
+        "is_harmless": ["depths", "common", "own", "key"],
+        "how_many_harmless": ["depths", "common", "own"],
+        "harmless_ranks": ["depths", "common", "own"],
+        "nth_harmless": ["depths", "common", "own", "number"],
+        "number_of_harmless": ["depths", "common", "own", "key"],
+        "is_house_closed": ["depths", "common", "own", "private"],
+        "breach": ["depths", "common", "own", "private"],
+        "kept_private": ["depths", "common", "private", "key"],
+    },
+    "worn": {
+        "is_worn": ["depths", "thing"],
+        "opens_worn": ["common", "worn", "one", "other"],
+        "worn_bar": ["common", "worn", "one", "other"],
+        "worn_rank": ["common", "worn", "key"],
+        "sizes": ["depths", "common", "worn"],
+        "worn_sizes": ["depths", "common", "worn"],
+        "most_worn": ["depths", "common", "worn"],
+        "worn_ranks": ["depths", "common", "worn"],
+        "nth_worn": ["depths", "common", "worn", "rank", "number"],
+        "number_worn": ["depths", "common", "worn", "key"],
+        "is_worn_quiet": ["common", "worn", "own"],
+        "worn_clashes": ["common", "worn", "own"],
+        "worn_share": ["depths", "common", "worn", "own"],
+        "wears_to": ["common", "own"],
+        "worn_rest": ["depths", "common", "worn", "own"],
+    },
 }
 
 # For each error class its built-in base class and the names of its values.
@@ -90,6 +178,45 @@ def can_open(door, key):
 def room(common, key):
     """For each pin the cut of the KEY and the common ones."""
     return [{key[pin]} | {each[pin] for each in common} for pin in range(len(key))]
+
+
+def lets(common, one, other):
+    """Whether the KEY one opens the ROOM of other."""
+    return all(cut in cuts for cut, cuts in zip(one, room(common, other)))
+
+
+def are_quiet(common, keys):
+    """Whether none of the KEYS opens the ROOM of another one."""
+    return not any(one != other and lets(common, one, other) for one in keys for other in keys)
+
+
+def row(common, key):
+    """The cuts of the KEY, None in the place of those that a COMMON KEY has there."""
+    return tuple(None if any(each[pin] == cut for each in common) else cut for pin, cut in enumerate(key))
+
+
+def how_many_free(common, key):
+    """The RANK of the KEY."""
+    return len(key) - row(common, key).count(None)
+
+
+def greatest_quiet(common, keys):
+    """The list of all greatest quiet sets of KEYS."""
+    for many in range(len(keys), -1, -1):
+        found = [some for some in combinations(keys, many) if are_quiet(common, some)]
+        if found:
+            return found
+    return []
+
+
+# Some small DEPTHS and COMMON KEYS for them: one and several, also such that all cuts are common at a pin or at all.
+HOUSES = (
+    ((4,), ((1,),)), ((4,), ((0,), (3,))), ((2,), ((0,), (1,))),
+    ((2, 3), ((0, 1),)), ((2, 3), ((0, 0), (1, 2))), ((2, 2), ((0, 1), (1, 0))),
+    ((3, 3), ((0, 0),)), ((3, 3), ((1, 2),)), ((3, 3), ((0, 0), (1, 0))), ((3, 3), ((0, 2), (1, 1), (2, 1))),
+    ((2, 2, 2), ((1, 0, 1),)), ((2, 2, 2), ((0, 0, 0), (0, 1, 0))), ((3, 2, 2), ((0, 0, 0),)),
+    ((3, 2, 2), ((0, 0, 1), (2, 0, 0))), ((2, 3, 2), ((0, 2, 0), (1, 1, 0), (1, 2, 0))),
+)
 
 
 def as_lists(value):

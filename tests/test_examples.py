@@ -2,7 +2,7 @@
 
 import unittest
 
-from undermasters import cuts, doors
+from undermasters import covers, cuts, doors, halls, more, most, private, quiet, worn
 
 KEYS = r"""
     >>> depths, common = (4, 4, 3), ((0, 0, 0), (0, 1, 0))
@@ -38,9 +38,114 @@ DOORS = r"""
     raises NoNumber(number=4)
 """
 
+HALLS = r"""
+    >>> people = (("ann", (0, 0)), ("bob", (1, 2)), ("cy", (0, 2)), ("dee", (2, 1)))
+    >>> hall = ((3, 3), people, (("attic", ("ann", "bob")), ("den", ("cy",)), ("hut", ("bob", "cy", "dee"))))
+    >>> door_of(hall, "hut"), who_opens(hall, "attic"), strangers(hall, "attic"), rooms_of(hall, "cy"), strange(hall), is_kept(hall)
+    (((0, 1, 2), (1, 2)), ('ann', 'bob', 'cy'), ('cy',), ('attic', 'den', 'hut'), (('cy', 'attic'),), False)
+    >>> more = ((3, 3), (*people, ("eve", (2, 2))), hall[2])
+    >>> strange(more), with_person(more, "dee", "den")[2][1], new_strangers(more, "dee", "den"), new_strangers(more, "cy", "attic"), is_kept(with_person(hall, "cy", "attic"))
+    ((('cy', 'attic'), ('eve', 'hut')), ('den', ('cy', 'dee')), (('eve', 'den'),), (), True)
+    >>> closure(hall, ("ann", "bob")), is_closed(hall, ("ann", "bob")), is_closed(hall, ("ann", "cy")), how_many_closed(hall), is_hall(hall), is_hall((hall[0], people, (("den", ()),)))
+    (('ann', 'bob', 'cy'), False, True, 13, True, False)
+    >>> door_of(hall, "loft")
+    raises NoName(name='loft')
+"""
+
+MOST = r"""
+    >>> lock, master = (4, 4, 4, 4, 4, 4), ((0, 0, 0, 0, 0, 0),)
+    >>> rank_sizes(lock, master), most_rooms(lock, master), best_ranks(lock, master), most_without_rows(lock, master, 2), most_without_rows(lock, master, 9)
+    ((1, 18, 135, 540, 1215, 1458, 729), 1458, (5,), 2673, 4096)
+    >>> pair = ((0, 0, 0, 0, 0, 0), (1, 1, 0, 0, 0, 0))
+    >>> rank_sizes(lock, pair), most_rooms(lock, pair), rank_sizes((2, 2, 2), ((0, 1, 0),)), best_ranks((2, 2, 2), ((0, 1, 0),)), rank_sizes((2, 5), ((0, 0), (1, 4)))
+    ((1, 16, 106, 372, 729, 756, 324), 756, (1, 3, 3, 1), (1, 2), (1, 3, 0))
+    >>> small = (3, 3)
+    >>> [nth_room(small, ((0, 0),), 1, number) for number in range(4)], nth_room(small, ((0, 0), (1, 0)), 1, 0), number_of_room(small, ((0, 0), (1, 0)), (1, 2)), nth_room(small, ((0, 0),), 0, 0), rank_rooms(small, ((0, 0),), 2)
+    ([(0, 1), (0, 2), (1, 0), (2, 0)], (0, 1), 1, (0, 0), ((1, 1), (1, 2), (2, 1), (2, 2)))
+    >>> keys_like(small, ((0, 0), (1, 0)), (1, 2)), how_many_of_rank(small, ((0, 0), (1, 0)), 1), how_many_of_rank(lock, master, 5), one_more_pin(small, ((0, 0),), 3), one_more_pin(small, ((0, 0),), 2)
+    (2, 5, 1458, 8, 4)
+    >>> nth_room(small, ((0, 0),), 1, 4)
+    raises NoNumber(number=4)
+"""
+
+QUIET = r"""
+    >>> small, zero = (3, 3), ((0, 0),)
+    >>> is_quiet(small, zero, ((0, 1), (0, 2), (1, 0))), clashes(small, zero, ((0, 1), (1, 1), (2, 1))), clashes(small, zero, ((0, 0), (1, 2))), least_taken_out(small, zero, ((0, 1), (1, 1), (2, 1))), least_taken_out(small, zero, ((0, 1), (1, 1)))
+    (True, [((0, 1), (1, 1)), ((0, 1), (2, 1))], [((0, 0), (1, 2))], ((0, 1),), ((0, 1),))
+    >>> clashes(small, ((0, 0), (1, 0)), ((0, 2), (1, 2))), share(small, zero, ((0, 1), (0, 2), (1, 0))), most_more(small, zero, ((0, 1), (0, 2), (1, 0))), most_more(small, zero, ()), share(small, zero, ((0, 2), (1, 1))), share(small, zero, ())
+    ([((0, 2), (1, 2)), ((1, 2), (0, 2))], (3, 4), 1, 4, (1, 2), (0, 1))
+    >>> is_greatest(small, zero, ((0, 1), (0, 2), (1, 0), (2, 0))), is_greatest(small, zero, ((0, 1), (0, 2), (1, 0))), is_full(small, zero, ((0, 1), (0, 2), (1, 0))), is_full(small, zero, ((0, 0),)), is_full(small, zero, ((0, 1), (0, 2), (1, 0), (2, 0)))
+    (True, False, False, True, True)
+    >>> ranks_of(small, zero, ((0, 1), (1, 1), (2, 2))), share_of_ranks(small, zero, (0, 2, 2)), can_be_by_share(small, zero, (0, 2, 2)), can_be_by_share(small, zero, (0, 3, 2)), can_be_by_share(small, zero, (1, 0, 0)), can_be_by_share(small, zero, (1, 1, 0))
+    ((0, 1, 2), (1, 1), True, False, True, False)
+    >>> most_more(small, zero, ((0, 1), (1, 1)))
+    raises NotQuiet(one=(0, 1), other=(1, 1))
+"""
+
+COVERS = r"""
+    >>> common, keys = ((0, 0, 0),), ((1, 0, 0), (1, 2, 0), (1, 2, 1), (2, 0, 1), (2, 3, 1))
+    >>> most_quiet(common, keys), len(quiet_among(common, keys)), len(cover_rows(common, keys)), longest_row(common, keys), len(quiet_cover(common, keys))
+    (2, 2, 2, ((1, 0, 0), (1, 2, 0), (1, 2, 1)), 3)
+    >>> is_opener_row(common, keys, ((1, 0, 0), (1, 2, 1))), is_opener_row(common, keys, ((1, 2, 1), (1, 0, 0))), is_opener_row(common, keys, ()), is_quiet_among(common, keys, ((1, 2, 0), (2, 3, 1))), is_quiet_among(common, keys, ())
+    (True, False, False, True, True)
+    >>> is_row_cover(common, keys, (((1, 0, 0), (1, 2, 0), (1, 2, 1)), ((2, 0, 1), (2, 3, 1)))), is_quiet_cover(common, keys, (((1, 0, 0), (2, 0, 1)), ((1, 2, 0), (2, 3, 1)), ((1, 2, 1),))), is_row_cover(common, keys, (keys,))
+    (True, True, False)
+    >>> always_in(common, keys), ever_in(common, keys) == keys, loners(common, keys), always_in(common, keys[1:2]), loners(common, keys[2:4]), most_quiet(common, ()), cover_rows(common, ()), quiet_cover(common, ())
+    ((), True, (), ((1, 2, 0),), ((1, 2, 1), (2, 0, 1)), 0, (), ())
+    >>> most_quiet(((0, 0), (1, 1)), ((2, 0), (2, 1))), len(longest_row(((0, 0), (1, 1)), ((2, 0), (2, 1)))), is_opener_row(((0, 0), (1, 1)), ((2, 0), (2, 1)), ((2, 1), (2, 0)))
+    (1, 2, True)
+"""
+
+MORE = r"""
+    >>> depths, common, own = (3, 3), ((0, 0),), ((1, 0),)
+    >>> how_many_further(depths, common, own), further_ranks(depths, common, own), [nth_further(depths, common, own, number) for number in range(5)], how_many_further(depths, common, ())
+    (5, (0, 3, 2), [(0, 1), (0, 2), (2, 0), (2, 1), (2, 2)], 9)
+    >>> is_further(depths, common, own, (2, 1)), is_further(depths, common, own, (1, 1)), is_further(depths, common, own, (0, 0)), is_further(depths, common, own, (1, 0)), number_of_further(depths, common, own, (2, 1)), number_of_further(depths, common, own, (1, 1))
+    (True, False, False, False, 3, None)
+    >>> who_bars(depths, common, own, (1, 1)), who_bars(depths, common, own, (0, 0)), who_bars(depths, common, own, (1, 0)), who_bars(depths, common, own, (2, 1))
+    (((), ((1, 0),)), (((1, 0),), ()), (((1, 0),), ((1, 0),)), ((), ()))
+    >>> best_addition(depths, common, own), best_addition((2, 2), ((0, 0),), ((1, 1),)), best_addition((2, 2), ((0, 0),), ((0, 1), (1, 0)))
+    (((0, 1), 3), None, None)
+    >>> wide, master, ones = (10,) * 12, ((0,) * 12,), ((1,) * 12,)
+    >>> how_many_further(wide, master, ones), nth_further(wide, master, ones, 0), nth_further(wide, master, ones, 10 ** 11), how_many_further((20,) * 12, ((0,) * 12, (7,) * 12), ())
+    (999999995904, (0, 0, 0, 0, 0, 0, 0, 0, 0, 0, 0, 2), (1, 0, 0, 0, 0, 0, 0, 0, 2, 0, 6, 4), 4096000000000000)
+    >>> nth_further(depths, common, own, 5)
+    raises NoNumber(number=5)
+"""
+
+PRIVATE = r"""
+    >>> depths, common, own = (3, 3), ((0, 0),), ((1, 0),)
+    >>> how_many_harmless(depths, common, own), harmless_ranks(depths, common, own), [nth_harmless(depths, common, own, number) for number in range(7)], how_many_harmless(depths, common, ())
+    (7, (0, 3, 4), [(0, 1), (0, 2), (1, 1), (1, 2), (2, 0), (2, 1), (2, 2)], 8)
+    >>> is_harmless(depths, common, own, (1, 1)), is_harmless(depths, common, own, (1, 0)), is_harmless(depths, common, (), (0, 0)), number_of_harmless(depths, common, own, (2, 1)), number_of_harmless(depths, common, own, (0, 0))
+    (True, False, False, 5, None)
+    >>> is_house_closed(depths, common, own, ((1, 1), (2, 1))), breach(depths, common, own, ((1, 1), (2, 1))), breach(depths, common, ((1, 0), (1, 1)), ()), breach(depths, common, ((1, 1),), ((0, 1), (1, 0))), breach(depths, common, (), ((0, 0),)), breach(depths, common, own, own)
+    (True, None, ((1, 0), (1, 1)), ((0, 1), (1, 1)), ((0, 0), (0, 0)), ((1, 0), (1, 0)))
+    >>> kept_private(depths, common, ((0, 1), (1, 1), (2, 1)), (2, 1)), how_many_harmless((10,) * 12, ((0,) * 12,), ((1,) * 12,)), harmless_ranks((3, 3), ((0, 0),), ((0, 1), (0, 2), (1, 0), (2, 0)))
+    (((1, 1),), 999999995904, (0, 0, 4))
+    >>> nth_harmless(depths, common, own, 7)
+    raises NoNumber(number=7)
+"""
+
+WORN = r"""
+    >>> depths, common = (9, 9), ((4, 4),)
+    >>> sizes(depths, common, (1, 1)), worn_sizes(depths, common, (1, 1)), most_worn(depths, common, (1, 1)), most_worn(depths, common, (0, 0)), sizes(depths, common, (2, 0)), sizes(depths, common, (4, 3)), worn_ranks((5, 3), ((0, 0),), (1, 0))
+    ((4, 4), (1, 8, 16), 16, 64, (2, 8), (0, 2), (1, 2))
+    >>> opens_worn(((4,),), (1,), (2,), (3,)), opens_worn(((4,),), (1,), (3,), (8,)), opens_worn(((4,),), (1,), (8,), (3,)), worn_bar(common, (1, 1), (4, 0), (4, 2)), worn_bar(common, (1, 1), (4, 0), (0, 1)), worn_rank(common, (1, 1), (3, 0))
+    (True, True, False, 1, None, 1)
+    >>> own = ((0, 4), (2, 4), (4, 0))
+    >>> is_worn_quiet(common, (1, 1), own), is_worn_quiet(common, (2, 0), own), worn_clashes(common, (2, 0), own), wears_to(common, own), worn_share(depths, common, (1, 1), own), worn_rest(depths, common, (1, 1), own), wears_to(common, own[:1]), wears_to(common, ((4, 0), (4, 4)))
+    (True, False, (((0, 4), (2, 4)), ((2, 4), (0, 4)), ((2, 4), (4, 0))), 1, (3, 8), 10, None, -1)
+    >>> some = tuple([nth_worn(depths, common, (1, 1), 2, number) for number in range(16)])
+    >>> is_worn_quiet(common, (1, 1), some), [worn_rank(common, (1, 1), key) for key in some[:3]], number_worn(depths, common, (1, 1), some[5]), number_worn((9,), ((4,),), (1,), (1,)), most_worn((10 ** 6,) * 40, ((0,) * 40,), (9,) * 40) > 10 ** 60 * 10 ** 60 * 10 ** 60
+    (True, [2, 2, 2], 5, None, True)
+    >>> nth_worn(depths, common, (1, 1), 1, 8)
+    raises NoNumber(number=8)
+"""
+
 # In the order of the document: an example may use the names of those ahead of it.
-SECTIONS = (KEYS, DOORS)
-FILES = (cuts, doors)
+SECTIONS = (KEYS, DOORS, HALLS, MOST, QUIET, COVERS, MORE, PRIVATE, WORN)
+FILES = (cuts, doors, halls, most, quiet, covers, more, private, worn)
 
 
 def steps_of(text):
@@ -83,7 +188,7 @@ class Examples(unittest.TestCase):
                     self.assertEqual(result_of(step, names), expected)
 
     def test_all_examples_are_here(self):
-        self.assertEqual([len(steps_of(text)) for text in SECTIONS], [8, 8])
+        self.assertEqual([len(steps_of(text)) for text in SECTIONS], [8, 8, 7, 8, 6, 6, 8, 6, 8])
 
 
 if __name__ == "__main__":

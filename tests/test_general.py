@@ -8,7 +8,7 @@ from copy import deepcopy
 from pathlib import Path
 
 from tests.support import ERRORS, FUNCTIONS, as_lists, has_list, inner_lists, mixed_lists, outer_list
-from undermasters.errors import NoNumber
+from undermasters import errors
 
 PACKAGE = Path(__file__).resolve().parent.parent / "undermasters"
 
@@ -18,6 +18,15 @@ LEAST = ((0, 0, 0), (0, 1, 0), (0, 2, 1), (1, 1, 1))
 GATE = ((0, 1), (0, 2))
 FAR = ((1, 2), (2,))
 OFF = ((0,), (1,))
+PEOPLE = (("ann", (0, 0)), ("bob", (1, 2)), ("cy", (0, 2)), ("dee", (2, 1)))
+ROOMS = (("attic", ("ann", "bob")), ("den", ("cy",)), ("hut", ("bob", "cy", "dee")))
+HALL = ((3, 3), PEOPLE, ROOMS)
+LOCK = (4, 4, 3)
+HOUSE = {"depths": LOCK, "common": COMMON}
+OWN = ((1, 0, 1), (1, 2, 0), (2, 0, 2))
+LOUD = ((0, 1, 1), (1, 0, 1), (2, 0, 0), (2, 1, 0), (2, 2, 1))
+WORN = (1, 0, 0)
+WORN_OWN = ((0, 2, 2), (0, 3, 2), (3, 0, 0))
 
 # For each function calls with tuples wherever the document states tuples.
 CALLS = {
@@ -53,15 +62,101 @@ CALLS = {
     "nth_of_some": [{"doors": (GATE, FAR), "number": number} for number in (0, 3, 4, 5, -1)],
     "givers": [{"keys": LEAST, "key": (0, 2, 0)}, {"keys": (), "key": (0, 2, 0)}],
     "fewest_makers": [{"keys": LEAST, "key": key} for key in ((0, 2, 0), (1, 0, 1), (2, 2, 2))],
+    "is_hall": [{"thing": thing} for thing in (HALL, list(HALL), ((3, 3), list(PEOPLE), ROOMS), ((3, 3), PEOPLE, ()))],
+    "door_of": [{"hall": HALL, "room": room} for room in ("hut", "loft")],
+    "who_opens": [{"hall": HALL, "room": room} for room in ("attic", "loft")],
+    "strangers": [{"hall": HALL, "room": room} for room in ("attic", "hut", "loft")],
+    "rooms_of": [{"hall": HALL, "person": person} for person in ("cy", "eve")],
+    "strange": [{"hall": HALL}, {"hall": ((3, 3), PEOPLE, ())}],
+    "is_kept": [{"hall": HALL}, {"hall": ((3, 3), PEOPLE, ROOMS[1:])}],
+    "with_person": [{"hall": HALL, "person": person, "room": room}
+                    for person, room in (("dee", "den"), ("cy", "den"), ("eve", "loft"), ("ann", "loft"))],
+    "new_strangers": [{"hall": HALL, "person": person, "room": room}
+                      for person, room in (("dee", "attic"), ("cy", "attic"), ("eve", "loft"), ("ann", "loft"))],
+    "closure": [{"hall": HALL, "names": names} for names in (("ann", "bob"), ("ann",), ("ann", "eve", "fay"))],
+    "is_closed": [{"hall": HALL, "names": names} for names in (("ann", "bob"), ("ann",), ("ann", "eve", "fay"))],
+    "how_many_closed": [{"hall": HALL}],
+    "rank_sizes": [HOUSE],
+    "most_rooms": [HOUSE],
+    "best_ranks": [HOUSE],
+    "most_without_rows": [{**HOUSE, "many": many} for many in (1, 2, 10 ** 40)],
+    "nth_room": [{**HOUSE, "free": 2, "number": number} for number in (0, 7, 15, 16, -1)],
+    "number_of_room": [{**HOUSE, "key": (2, 1, 1)}],
+    "rank_rooms": [{**HOUSE, "free": free} for free in range(4)],
+    "keys_like": [{**HOUSE, "key": (2, 1, 1)}],
+    "how_many_of_rank": [{**HOUSE, "free": free} for free in range(4)],
+    "one_more_pin": [{**HOUSE, "depth": 3}],
+    "is_further": [{**HOUSE, "own": OWN, "key": key} for key in ((1, 0, 2), (1, 1, 1), (1, 2, 0))],
+    "who_bars": [{**HOUSE, "own": OWN, "key": key} for key in ((1, 0, 2), (0, 1, 0), (1, 2, 1))],
+    "how_many_further": [{**HOUSE, "own": OWN}, {**HOUSE, "own": ()}],
+    "further_ranks": [{**HOUSE, "own": OWN}, {**HOUSE, "own": ()}],
+    "nth_further": [{**HOUSE, "own": OWN, "number": number} for number in (0, 3, 40, -1)],
+    "number_of_further": [{**HOUSE, "own": OWN, "key": key} for key in ((1, 0, 2), (1, 1, 1))],
+    "best_addition": [{**HOUSE, "own": own} for own in (OWN, OWN[:1], ((0, 1, 0),))],
+    "is_quiet": [{**HOUSE, "own": own} for own in (OWN, LOUD, ())],
+    "clashes": [{**HOUSE, "own": own} for own in (OWN, LOUD, ())],
+    "least_taken_out": [{**HOUSE, "own": own} for own in (OWN, LOUD, ())],
+    "share": [{**HOUSE, "own": own} for own in (OWN, LOUD, ())],
+    "most_more": [{**HOUSE, "own": own} for own in (OWN, LOUD, ())],
+    "is_greatest": [{**HOUSE, "own": own} for own in (OWN, LOUD, ())],
+    "is_full": [{**HOUSE, "own": own} for own in (OWN, LOUD, (), ((0, 1, 0),))],
+    "share_of_ranks": [{**HOUSE, "counts": counts} for counts in ((0, 3, 2, 1), (0, 0, 0, 0))],
+    "can_be_by_share": [{**HOUSE, "counts": counts} for counts in ((0, 3, 2, 1), (1, 1, 0, 0))],
+    "ranks_of": [{**HOUSE, "own": own} for own in (OWN, LOUD, ())],
+    "most_quiet": [{"common": COMMON, "keys": keys} for keys in (LOUD, OWN, ())],
+    "quiet_among": [{"common": COMMON, "keys": keys} for keys in (LOUD, OWN, ())],
+    "is_quiet_among": [{"common": COMMON, "keys": LOUD, "thing": thing}
+                       for thing in (LOUD[:2], LOUD[1:3], list(LOUD[1:3]), ([0, 1, 1],), ())],
+    "cover_rows": [{"common": COMMON, "keys": keys} for keys in (LOUD, OWN, ())],
+    "is_opener_row": [{"common": COMMON, "keys": LOUD, "thing": thing}
+                      for thing in (LOUD[:2], LOUD[1::-1], list(LOUD[:2]), ([0, 1, 1],), ())],
+    "is_row_cover": [{"common": COMMON, "keys": LOUD, "thing": thing}
+                     for thing in ((LOUD[:2], LOUD[2:]), [LOUD[:2], LOUD[2:]], (list(LOUD[:2]), LOUD[2:]), (LOUD,), ())],
+    "longest_row": [{"common": COMMON, "keys": keys} for keys in (LOUD, OWN)],
+    "quiet_cover": [{"common": COMMON, "keys": keys} for keys in (LOUD, OWN, ())],
+    "is_quiet_cover": [{"common": COMMON, "keys": LOUD[:3], "thing": thing}
+                       for thing in ((LOUD[:1], LOUD[1:3]), [LOUD[:1], LOUD[1:3]], (LOUD[:1], list(LOUD[1:3])), ())],
+    "always_in": [{"common": COMMON, "keys": keys} for keys in (LOUD, LOUD[:4], OWN, ())],
+    "ever_in": [{"common": COMMON, "keys": keys} for keys in (LOUD, LOUD[:4], OWN, ())],
+    "loners": [{"common": COMMON, "keys": keys} for keys in (LOUD[1:], OWN, ())],
+    "is_harmless": [{**HOUSE, "own": OWN, "key": key} for key in ((1, 0, 2), (1, 0, 0), (0, 1, 0))],
+    "how_many_harmless": [{**HOUSE, "own": OWN}, {**HOUSE, "own": ()}],
+    "harmless_ranks": [{**HOUSE, "own": OWN}, {**HOUSE, "own": ()}],
+    "nth_harmless": [{**HOUSE, "own": OWN, "number": number} for number in (0, 3, 48, -1)],
+    "number_of_harmless": [{**HOUSE, "own": OWN, "key": key} for key in ((1, 0, 2), (1, 0, 0))],
+    "is_house_closed": [{**HOUSE, "own": OWN, "private": private} for private in (((1, 0, 2),), LOUD, OWN, ())],
+    "breach": [{**HOUSE, "own": OWN, "private": private} for private in (((1, 0, 2),), LOUD, OWN, COMMON, ())],
+    "kept_private": [{**HOUSE, "private": LOUD, "key": key} for key in ((2, 2, 1), (0, 1, 0))],
+    "is_worn": [{"depths": LOCK, "thing": thing} for thing in (WORN, list(WORN), (1, 0), (10 ** 41, 0, 0), (-1, 0, 0))],
+    "opens_worn": [{"common": COMMON, "worn": WORN, "one": (2, 1, 0), "other": other} for other in (WORN_OWN[0], (3, 3, 2))],
+    "worn_bar": [{"common": COMMON, "worn": WORN, "one": (2, 1, 0), "other": other} for other in (WORN_OWN[0], (3, 3, 2))],
+    "worn_rank": [{"common": COMMON, "worn": WORN, "key": (2, 1, 2)}],
+    "sizes": [{**HOUSE, "worn": WORN}],
+    "worn_sizes": [{**HOUSE, "worn": WORN}],
+    "most_worn": [{**HOUSE, "worn": WORN}],
+    "worn_ranks": [{**HOUSE, "worn": WORN}],
+    "nth_worn": [{**HOUSE, "worn": WORN, "rank": 2, "number": number} for number in (0, 5, 7, 8, -1)],
+    "number_worn": [{**HOUSE, "worn": WORN, "key": key} for key in ((2, 0, 1), (3, 0, 1), (1, 0, 1))],
+    "is_worn_quiet": [{"common": COMMON, "worn": worn, "own": own} for worn in (WORN, (1, 1, 1)) for own in (WORN_OWN, ())],
+    "worn_clashes": [{"common": COMMON, "worn": worn, "own": own} for worn in (WORN, (1, 1, 1)) for own in (WORN_OWN, ())],
+    "worn_share": [{**HOUSE, "worn": WORN, "own": own} for own in (WORN_OWN, LOUD, ())],
+    "wears_to": [{"common": COMMON, "own": own} for own in (WORN_OWN, LOUD, WORN_OWN[:1], ())],
+    "worn_rest": [{**HOUSE, "worn": WORN, "own": own} for own in (WORN_OWN, ())],
 }
+
+# Beside those whose names begin with is_, the functions that tell whether something is so.
+WHETHER = ("alike", "opens_room", "opens", "within", "can_be_by_share", "opens_worn")
+
+# The functions that return a list.
+LISTS = ("clashes",)
 
 
 def outcome(function, *told, **named):
-    """What the call returns, written out, or the number of its NoNumber."""
+    """What the call returns, written out, or the error that it raises."""
     try:
         return repr(function(*told, **named))
-    except NoNumber as error:
-        return f"no number {error.number!r}"
+    except tuple(getattr(errors, name) for name in ERRORS) as error:
+        return f"{type(error).__name__} {vars(error)!r}"
 
 
 def in_form(form, named):
@@ -117,9 +212,20 @@ class EveryFunction(unittest.TestCase):
         for function, named in self.each_call():
             try:
                 result = function(**in_form(as_lists, named))
-            except NoNumber:
-                continue
+            except tuple(getattr(errors, name) for name in ERRORS) as error:
+                result = tuple(vars(error).values())
+            else:
+                if function.__name__ in LISTS:
+                    self.assertIsInstance(result, list)
+                    result = tuple(result)
             self.assertFalse(has_list(result), (function, named, result))
+
+    def test_lists_are_new(self):
+        for function, named in self.each_call():
+            if function.__name__ in LISTS:
+                expected = outcome(function, **named)
+                function(**named).append("more")
+                self.assertEqual(outcome(function, **named), expected)
 
     def test_same_again(self):
         for function, named in self.each_call():
@@ -127,8 +233,8 @@ class EveryFunction(unittest.TestCase):
 
     def test_whether_is_told_by_bools(self):
         for function, named in self.each_call():
-            if function.__name__.startswith("is_") or function.__name__ in ("alike", "opens_room", "opens", "within"):
-                self.assertIsInstance(function(**named), bool, function)
+            if function.__name__.startswith("is_") or function.__name__ in WHETHER:
+                self.assertIn(outcome(function, **named).split()[0], ("True", "False", "NoName"), function)
 
 
 class Interface(unittest.TestCase):

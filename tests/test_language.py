@@ -32,6 +32,11 @@ copyright credits delattr dir eval exec exit gc getattr globals hasattr help id 
 os quit setattr type vars sys hash format round filter
 """.split()
 
+BARRED_ATTRIBUTES = """
+items keys values pop update append clear extend insert remove reverse setdefault sort args encode decode hex fromhex
+format format_map mro
+""".split()
+
 BARRED_NODES = (
     ast.Global, ast.AsyncFunctionDef, ast.AsyncFor, ast.AsyncWith, ast.Await, ast.Div, ast.MatMult, ast.Import,
 )
@@ -112,6 +117,48 @@ class Form(unittest.TestCase):
             for bound in bound_names(node):
                 self.assertNotIn(bound, BARRED_NAMES, (name, node.lineno))
                 self.assertNotIn(bound, vars(builtins), (name, node.lineno))
+
+    def test_names_of_imports_and_classes(self):
+        for path, text in package_files():
+            tree = ast.parse(text)
+            taken = [alias.name for node in tree.body if isinstance(node, ast.ImportFrom) for alias in node.names]
+            taken.extend([node.name for node in tree.body if isinstance(node, ast.ClassDef)])
+            self.assertEqual(len(taken), len(set(taken)), path.name)
+            for node in ast.walk(tree):
+                if isinstance(node, (ast.Name, ast.arg)):
+                    for bound in bound_names(node):
+                        self.assertNotIn(bound, taken, (path.name, node.lineno))
+
+    def test_attributes(self):
+        classes = [node for _, node in nodes_of(ast.ClassDef)]
+        for kind in classes:
+            methods = [node.name for node in kind.body if isinstance(node, ast.FunctionDef)]
+            for node in ast.walk(kind):
+                if isinstance(node, ast.Attribute) and isinstance(node.ctx, ast.Store):
+                    self.assertNotIn(node.attr, methods, kind.name)
+                    self.assertNotIn(node.attr, BARRED_ATTRIBUTES, kind.name)
+
+    def test_imports_are_used_and_made_where_they_say(self):
+        for path, text in package_files():
+            tree = ast.parse(text)
+            read = [node.id for node in ast.walk(tree) if isinstance(node, ast.Name)]
+            for node in [node for node in tree.body if isinstance(node, ast.ImportFrom)]:
+                for alias in node.names:
+                    self.assertIn(alias.name, read, path.name)
+                if node.module.startswith("undermasters."):
+                    source = (PACKAGE / f"{node.module.split('.')[1]}.py").read_text(encoding="ascii")
+                    made = [each.name for each in ast.parse(source).body
+                            if isinstance(each, (ast.FunctionDef, ast.ClassDef))]
+                    for alias in node.names:
+                        self.assertIn(alias.name, made, path.name)
+
+    def test_ranges_and_views_are_iterated_at_once(self):
+        kept = ("zip", "enumerate", "reversed", "map", "items", "keys", "values")
+        for name, node in nodes_of((ast.Assign, ast.Return)):
+            call = node.value
+            if isinstance(call, ast.Call):
+                called = call.func.id if isinstance(call.func, ast.Name) else call.func.attr
+                self.assertNotIn(called, kept, (name, node.lineno))
 
     def test_is(self):
         for name, node in nodes_of(ast.Compare):

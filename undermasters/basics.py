@@ -1,4 +1,4 @@
-"""What several files need: kinds of values, sets, and the numbers of choices."""
+"""What several files need: kinds of values, sets, marks, and the numbers of choices."""
 
 
 def is_number(thing):
@@ -9,6 +9,18 @@ def is_number(thing):
 def is_cut(depth, thing):
     """Whether thing is a cut at a pin of so many depths."""
     return is_number(thing) and 0 <= thing < depth
+
+
+def is_name(thing):
+    """Whether thing is a NAME."""
+    if not isinstance(thing, str) or not 1 <= len(thing) <= 8:
+        return False
+    return all(["a" <= sign <= "z" for sign in thing])
+
+
+def is_pair(thing):
+    """Whether thing is a tuple of two."""
+    return isinstance(thing, tuple) and len(thing) == 2
 
 
 def is_ascending(things):
@@ -31,6 +43,24 @@ def cuts_at(keys, pin):
 def cuts_by_pin(keys):
     """For each pin the set of the cuts that these KEYS, at least one, have there."""
     return tuple([cuts_at(keys, pin) for pin in range(len(keys[0]))])
+
+
+# Which ones of several things are meant can be told by marks: a number whose bit at k stands for the thing at k.
+
+
+def all_marked(many):
+    """The marks of all of so many things."""
+    return (1 << many) - 1
+
+
+def marked(marks):
+    """The ascending list of the places that the marks stand for."""
+    places = []
+    while marks > 0:
+        least = marks & -marks
+        places.append(least.bit_length() - 1)
+        marks -= least
+    return places
 
 
 def how_many_choices(sizes):
@@ -56,3 +86,12 @@ def number_of_choice(sizes, choice):
     for size, place in zip(sizes, choice):
         number = number * size + place
     return number
+
+
+def place_in(counts, number):
+    """Where, with so many things at each place, the one with this number is, and its number there; it must be there."""
+    place = 0
+    while number >= counts[place]:
+        number -= counts[place]
+        place += 1
+    return (place, number)

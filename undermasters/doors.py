@@ -2,8 +2,8 @@
 
 from itertools import combinations
 
-from undermasters.basics import as_tuples, cuts_by_pin, how_many_choices, is_ascending, is_cut
-from undermasters.basics import nth_choice, number_of_choice
+from undermasters.basics import all_marked, as_tuples, cuts_by_pin, how_many_choices, is_ascending, is_cut
+from undermasters.basics import marked, nth_choice, number_of_choice, place_in
 from undermasters.errors import NoNumber
 
 
@@ -75,7 +75,7 @@ def how_many_strays(keys):
 
 def how_many_some(doors):
     """How many KEYS open at least one of the DOORs."""
-    return Ends(lets_by_pin(doors)).how_many(0, all_marked(doors))
+    return Ends(lets_by_pin(doors)).how_many(0, all_marked(len(doors)))
 
 
 def how_many_all(doors):
@@ -90,27 +90,10 @@ def how_many_all(doors):
 
 def how_many_just(depths, doors, number):
     """How many KEYS of these DEPTHS open just so many of the DOORs."""
-    tally = {all_marked(doors): 1}
+    tally = {all_marked(len(doors)): 1}
     for depth, lets in zip(depths, lets_by_pin(doors)):
         tally = tally_after(tally, depth, lets)
-    return sum([many for marks, many in tally.items() if how_many_marked(marks) == number])
-
-
-# Which ones of several DOORs are meant is told by marks: a number whose bit at k stands for the DOOR at k.
-
-
-def all_marked(doors):
-    """The marks of all of the DOORs."""
-    return (1 << len(doors)) - 1
-
-
-def how_many_marked(marks):
-    """How many DOORs the marks stand for."""
-    many = 0
-    while marks > 0:
-        many += marks & 1
-        marks = marks >> 1
-    return many
+    return sum([many for marks, many in tally.items() if len(marked(marks)) == number])
 
 
 def lets_by_pin(doors):
@@ -175,18 +158,15 @@ def number_of_opener(door, key):
 def nth_of_some(doors, number):
     """The KEY with this number, from 0, ascending, of those that open some DOOR; raises NoNumber if there is none."""
     lets = lets_by_pin(doors)
-    ends, marks = Ends(lets), all_marked(doors)
+    ends, marks = Ends(lets), all_marked(len(doors))
     if not 0 <= number < ends.how_many(0, marks):
         raise NoNumber(number)
     key, left = [], number
     for pin, pairs in enumerate(lets):
-        for cut, here in pairs:
-            many = ends.how_many(pin + 1, marks & here)
-            if left < many:
-                key.append(cut)
-                marks = marks & here
-                break
-            left -= many
+        place, left = place_in([ends.how_many(pin + 1, marks & here) for _, here in pairs], left)
+        cut, here = pairs[place]
+        key.append(cut)
+        marks = marks & here
     return tuple(key)
 
 
