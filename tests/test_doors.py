@@ -2,6 +2,8 @@
 
 import unittest
 from itertools import combinations, product
+from random import Random
+from unittest.mock import patch
 
 from tests.support import NEVER, OUTSIDE, can_open, doors_of, has_list, keys_of, subsets
 from undermasters import doors
@@ -309,6 +311,42 @@ class Makers(unittest.TestCase):
         self.assertEqual(doors.fewest_makers(keys, (1,) * 11 + (0,)), keys[1:])
         self.assertEqual(doors.fewest_makers(keys, (0,) * 12), keys[:2])
         self.assertIsNone(doors.fewest_makers(keys, (1,) * 11 + (2,)))
+
+    def hold_against_listing(self, keys, key):
+        making = (some for many in range(1, len(keys) + 1) for some in combinations(keys, many)
+                  if can_open(doors.door_for(some), key))
+        self.assertEqual(doors.fewest_makers(keys, key), next(making, None), (keys, key))
+
+    def test_drawn_keys_against_listing(self):
+        draw = Random(5)
+        for _ in range(250):
+            pins, depth = draw.randint(1, 12), draw.randint(2, 4)
+            keys = tuple(sorted({tuple(draw.randrange(depth) for _ in range(pins)) for _ in range(draw.randint(1, 8))}))
+            self.hold_against_listing(keys, tuple(draw.choice(keys)[pin] for pin in range(pins)))
+            self.hold_against_listing(keys, tuple(draw.randrange(depth) for _ in range(pins)))
+
+    def test_twelve_drawn_keys_of_forty_pins(self):
+        draw = Random(12)
+        for givers in (1, 2, 3, 6):
+            for _ in range(4):
+                # at each pin so many of the twelve KEYS, or one more, have the cut 0 that is wanted
+                columns = [draw.sample(range(12), givers + pin % 2) for pin in range(40)]
+                keys = tuple(sorted(tuple(0 if at in column else 10 ** 6 - 1 - at for column in columns)
+                                    for at in range(12)))
+                self.hold_against_listing(keys, (0,) * 40)
+
+    def test_few_steps(self):
+        # no set but the whole one gives all pins here: going through all sets would be 4095 steps
+        keys = tuple(sorted(tuple(1 if j == k else 0 for j in range(12)) for k in range(12)))
+        steps, least = [], doors.Makers.least
+
+        def counted(makers, at, left, many):
+            steps.append(at)
+            return least(makers, at, left, many)
+
+        with patch.object(doors.Makers, "least", counted):
+            self.assertEqual(doors.fewest_makers(keys, (1,) * 12), keys)
+        self.assertLess(len(steps), 100)
 
     def test_told_as_lists(self):
         keys = [[0, 0], [0, 1], [1, 2]]

@@ -1,7 +1,5 @@
 """DOORs: which KEYS open one, some, all or just so many of them."""
 
-from itertools import combinations
-
 from undermasters.basics import all_marked, as_tuples, cuts_by_pin, how_many_choices, is_ascending, is_cut
 from undermasters.basics import marked, nth_choice, number_of_choice, place_in
 from undermasters.errors import NoNumber
@@ -182,11 +180,49 @@ def with_cut(keys, pin, cut):
 
 def fewest_makers(keys, key):
     """The least set of as few of KEYS as can be for which a DOOR is pinned that the KEY opens, or None."""
-    if not opens(door_for(keys), key):
+    gives = [pins_given(one, key) for one in keys]
+    makers, every = Makers(gives), all_marked(len(key))
+    if makers.behind[0] != every:
         return None
-    makers = list(as_tuples(keys))
-    for many in range(1, len(makers) + 1):
-        for some in combinations(makers, many):
-            if opens(door_for(some), key):
-                return some
-    return None
+    widest = max([len(marked(marks)) for marks in gives])
+    # fewer ones, each of which gives widest pins at the most, cannot give all
+    many = (len(key) + widest - 1) // widest
+    places = makers.least(0, every, many)
+    while places is None:
+        many += 1
+        places = makers.least(0, every, many)
+    return as_tuples([keys[place] for place in places])
+
+
+def pins_given(one, key):
+    """The marks of the pins at which the KEY one has the cut of key."""
+    return sum([1 << pin for pin, cut in enumerate(key) if one[pin] == cut])
+
+
+class Makers:
+    """KEYS that give pins, told by marks: which ones of them give all pins that are wanted."""
+
+    def __init__(self, gives):
+        self.gives = gives
+        behind = [0]
+        for marks in gives[::-1]:
+            behind.append(behind[-1] | marks)
+        self.behind = behind[::-1]
+
+    def least(self, at, left, many):
+        """The least list of so many places, from this one on, that give the pins left; None if there is none.
+
+        It must be known that fewer ones do not give these pins.
+        """
+        if left == 0:
+            return []
+        if many == 0:
+            return None
+        while left & ~self.behind[at] == 0:
+            here = self.gives[at]
+            if left & here != 0:
+                rest = self.least(at + 1, left & ~here, many - 1)
+                if rest is not None:
+                    return [at, *rest]
+            at += 1
+        return None
