@@ -2,7 +2,8 @@
 
 import unittest
 
-from undermasters import covers, cuts, doors, halls, more, most, private, quiet, worn
+from undermasters import board, changes, commons, covers, cuts, desk, doors, halls, lost, more, most, private, quiet
+from undermasters import texts, wings, worn
 
 KEYS = r"""
     >>> depths, common = (4, 4, 3), ((0, 0, 0), (0, 1, 0))
@@ -143,9 +144,108 @@ WORN = r"""
     raises NoNumber(number=8)
 """
 
+LOST = r"""
+    >>> home = ((3, 3), (("ann", (0, 0)), ("bob", (1, 2)), ("cy", (0, 2)), ("dee", (2, 1))), (("attic", ("ann", "bob")), ("den", ("cy",)), ("hut", ("bob", "cy", "dee"))))
+    >>> still_opens(home, "cy"), still_opens(home, "dee"), is_enough(home, "cy", ()), is_enough(home, "cy", ("bob",)), is_enough(home, "dee", ()), shut_by(home, "cy", ("bob",)), shut_by(home, "cy", ("dee",)), shut_by(home, "dee", ())
+    (('attic',), (), False, True, True, (('attic', 1),), None, ())
+    >>> fewest_anew(home, "cy"), fewest_anew(home, "dee"), dearest_losses(home), doors_anew(home, "cy", ("ann",)), without_person(home, "cy")[2]
+    (('ann',), (), ('cy',), ('attic', 'hut'), (('attic', ('ann', 'bob')), ('hut', ('bob', 'dee'))))
+    >>> cut_anew(home, "cy", ("ann",))[1], still_opens(home, "ann"), still_opens(home, "bob")
+    ((('ann', (1, 0)), ('bob', (1, 2)), ('dee', (2, 1))), (), ())
+    >>> is_enough(home, "cy", ("cy",))
+    raises NoName(name='cy')
+"""
+
+COMMONS = r"""
+    >>> four, base = (4, 4, 4), ((0, 0, 0),)
+    >>> cost_of(four, base, (1, 0, 0)), cost_of(four, base, (1, 1, 1)), costs_nothing(four, base, (0, 0, 0)), cost_of((5, 3), ((0, 0),), (4, 1)), costs_nothing((2, 2, 2, 2), ((0, 0, 0, 0),), (1, 0, 0, 0))
+    (6, 15, True, 4, False)
+    >>> best_pins(four, base, 1), least_cost(four, base, 2), best_pins((2, 2, 9), base, 1), least_cost((2, 2, 9), base, 1), best_pins((2, 2, 9), base, 4), with_new_at(four, ((0, 0, 0), (0, 1, 2)), (1,)), least_cost(four, base, 0)
+    ((0,), 11, (2,), 2, None, (0, 2, 0), 0)
+    >>> how_many_fit((3, 3), ((0, 0), (1, 1))), how_many_fit((3, 3), ((0, 0), (0, 1))), nth_fit((3, 3), ((0, 0), (0, 1)), 1), how_many_fit((3, 3), ((0, 0), (0, 1), (1, 0))), nth_fit((3, 3), ((0, 0), (0, 1), (1, 0)), 0), how_many_fit((2, 2), ((0, 0), (0, 1)))
+    (7, 3, (1, 2), 1, (2, 2), 0)
+    >>> is_fit(((0, 0), (1, 1)), (0, 1)), unfit_pair(((0, 0), (1, 1)), (1, 1)), unfit_pair(((0, 0), (0, 1)), (5, 0)), number_of_fit((3, 3), ((0, 0), (0, 1)), (2, 2)), number_of_fit((3, 3), ((0, 0), (0, 1)), (2, 1))
+    (True, ((1, 1), (0, 0)), ((0, 0), (0, 1)), 2, None)
+    >>> nth_fit((2, 2), ((0, 0), (0, 1)), 0)
+    raises NoNumber(number=0)
+"""
+
+WINGS = r"""
+    >>> grand = ((0, 0, 0),)
+    >>> wings = (("east", ((0, 0, 1),), ((2, 2, 3), (2, 3, 3))), ("west", ((0, 0, 2),), ((3, 2, 3),)))
+    >>> are_wings((4, 4, 4), grand, wings), wing_names(wings), room_in(grand, wings, "east", (2, 3, 3)), strays(grand, wings), kept_wings(grand, wings), opened_rooms(grand, wings, (0, 0, 1)), len(opened_rooms(grand, wings, (0, 0, 0)))
+    (True, ('east', 'west'), ((0, 2), (0, 3), (0, 1, 3)), (), ('east', 'west'), (('east', (2, 2, 3)), ('east', (2, 3, 3))), 3)
+    >>> later = with_room(grand, wings, "west", (2, 2, 1))
+    >>> strays(grand, later), kept_wings(grand, later), without_room(later, "west", (2, 2, 1)) == wings, is_open_to(grand, wings, "west", (2, 2, 1)), is_open_to(grand, wings, "west", (3, 3, 3))
+    ((((0, 0, 1), 'west', (2, 2, 1)), ((2, 2, 1), 'east', (2, 2, 3))), (), True, False, True)
+    >>> most_in((4, 4, 4), grand, wings, "east"), share_in((4, 4, 4), grand, wings, "east"), most_in((4, 4, 4), (), (("east", (), ((1, 1, 1),)),), "east")
+    (21, (1, 9), None)
+    >>> lone = (("a", (), ((1, 1),)),)
+    >>> how_many_open_to((3, 3), ((0, 0),), lone, "a"), [nth_open_to((3, 3), ((0, 0),), lone, "a", number) for number in range(5)], are_wings((3, 3), ((0, 0),), (("a", ((0, 0),), ()),)), are_wings((3, 3), (), lone)
+    (5, [(0, 2), (1, 2), (2, 0), (2, 1), (2, 2)], False, True)
+    >>> room_in(grand, wings, "north", (2, 2, 3))
+    raises NoName(name='north')
+    >>> nth_open_to((3, 3), ((0, 0),), lone, "a", 5)
+    raises NoNumber(number=5)
+"""
+
+CHANGES = r"""
+    >>> own = ((1, 0),)
+    >>> [next_key((3, 3), ((0, 0),), own, number) for number in (-5, 0, 2, 3, 7, 9)], room_more((3, 3), ((0, 0),), own)
+    ([(0, 1), (0, 1), (0, 2), (2, 0), (2, 1), None], (0, 1))
+    >>> fresh_for((3, 3), ((0, 0),), own, (1, 0)), nearest_key((3, 3), ((0, 0),), ((0, 1), (1, 0)), (1, 0)), fresh_for((3, 3), ((0, 0),), ((0, 1), (1, 0)), (1, 0))
+    ((0, 0), (1, 2), (0, 2))
+    >>> next_key((20,) * 12, ((0,) * 12,), ((1,) * 12,), 20 ** 11)
+    (1, 0, 0, 0, 0, 0, 0, 0, 0, 0, 0, 2)
+    >>> recut(((1, 0), (2, 2)), 0, (0, 2, 1)), reordered(((1, 0, 2),), (2, 0, 1)), with_pin(((1, 0),), 1, 7), room_more((2, 2), ((0, 0),), ((0, 1), (1, 0)))
+    (((1, 2), (2, 0)), ((2, 1, 0),), ((1, 7, 0),), None)
+    >>> fresh_for((3, 3), ((0, 0),), own, (2, 2))
+    raises NoKey(key=(2, 2))
+"""
+
+BOARD = r"""
+    >>> board = Board((4, 4, 3), ((0, 0, 0),))
+    >>> board.put((1, 2, 0)), board.put((2, 0, 1)), board.own(), len(board), [1, 2, 0] in board, board.deeds(), board.common()
+    (None, None, ((1, 2, 0), (2, 0, 1)), 2, True, 2, ((0, 0, 0),))
+    >>> board.change((2, 0, 1), (0, 3, 1)), board.own(), board.take_out((1, 2, 0)), board.undo(), board.undo(), board.own()
+    (None, ((0, 3, 1), (1, 2, 0)), None, None, None, ((1, 2, 0), (2, 0, 1)))
+    >>> board.put((1, 0, 0))
+    raises NotQuiet(one=(1, 0, 0), other=(1, 2, 0))
+    >>> board.put((2, 0, 1))
+    raises Twice(key=(2, 0, 1))
+    >>> board.twin() == board, board == Board((4, 4, 3), ((0, 0, 0),)), board.deeds()
+    (True, False, 2)
+"""
+
+TEXTS = r"""
+    >>> depths_text((4, 4, 3)), key_text((1, 2, 0)), keys_text(((1, 2, 0), (2, 0, 1))), keys_text(()), row_text((2, None, 0)), door_text(((0, 1), (2,), (0, 2)))
+    ('4 4 3', '1-2-0', '1-2-0, 2-0-1', 'none', '2-*-0', '0,1 / 2 / 0,2')
+    >>> depths_read("4 4 3"), key_read("1-2-0"), keys_read("1-2-0, 2-0-1"), keys_read("none"), row_read("2-*-0"), row_read("*"), door_read("0,1 / 2 / 0,2")
+    ((4, 4, 3), (1, 2, 0), ((1, 2, 0), (2, 0, 1)), (), (2, None, 0), (None,), ((0, 1), (2,), (0, 2)))
+    >>> plan_read(plan_text((4, 4, 3), ((0, 0, 0),), ((1, 2, 0), (2, 0, 1)))) == ((4, 4, 3), ((0, 0, 0),), ((1, 2, 0), (2, 0, 1)))
+    True
+    >>> keys_read("2-0-1, 1-2-0")
+    raises BadText()
+    >>> plan_read("3 3\n0-0\n1-3")
+    raises BadLine(number=2)
+    >>> plan_read("3 3\n0-0")
+    raises BadLine(number=2)
+"""
+
+DESK = r"""
+    >>> replies((4, 4, 3), ((0, 0, 0),), "put 1-2-0\nput 2-0-1\nown\nmany\nshare\nmore\nput 1-0-0\nput 2-0-1\nout 3-3-2\nclash 1-0-0\nchange 2-0-1 0-3-1\nown\nundo\nown\nundo\nundo\nundo\nown")
+    ['done', 'done', '1-2-0, 2-0-1', '2', '2/21', '19', 'refused NotQuiet', 'refused Twice', 'refused NoKey', '1-2-0', 'done', '0-3-1, 1-2-0', 'done', '1-2-0, 2-0-1', 'done', 'done', 'refused NothingDone', 'none']
+    >>> replies((4, 4, 3), ((0, 0, 0),), "sizes\nmost\nroom 2 0\nroom 2 20\nroom 2 21\nrank 1-0-2\nopens 1-0-0 1-2-0\nopens 1-2-0 1-0-0\nalike 1-0-0 1-0-0\nshare\nmore\nclash 0-0-0")
+    ['1 8 21 18', '21', '0-1-1', '3-3-0', 'refused NoNumber', '2', 'yes', 'no', 'yes', '0/1', '21', 'none']
+    >>> is_request((4, 4, 3), "put 1-2-0"), is_request((4, 4, 3), "put 1-2-3"), is_request((4, 4, 3), "put 1-2"), is_request((4, 4, 3), "room 4 0"), is_request((4, 4, 3), "undo "), replies((2,), ((0,),), "")
+    (True, False, False, False, False, [])
+    >>> replies((4, 4, 3), ((0, 0, 0),), "own\nput 4-0-0")
+    raises BadLine(number=1)
+"""
+
 # In the order of the document: an example may use the names of those ahead of it.
-SECTIONS = (KEYS, DOORS, HALLS, MOST, QUIET, COVERS, MORE, PRIVATE, WORN)
-FILES = (cuts, doors, halls, most, quiet, covers, more, private, worn)
+SECTIONS = (KEYS, DOORS, HALLS, MOST, QUIET, COVERS, MORE, PRIVATE, WORN, LOST, COMMONS, WINGS, CHANGES, BOARD, TEXTS, DESK)
+FILES = (cuts, doors, halls, most, quiet, covers, more, private, worn, lost, commons, wings, changes, board, texts, desk)
 
 
 def steps_of(text):
@@ -188,7 +288,8 @@ class Examples(unittest.TestCase):
                     self.assertEqual(result_of(step, names), expected)
 
     def test_all_examples_are_here(self):
-        self.assertEqual([len(steps_of(text)) for text in SECTIONS], [8, 8, 7, 8, 6, 6, 8, 6, 8])
+        self.assertEqual([len(steps_of(text)) for text in SECTIONS], [8, 8, 7, 8, 6, 6, 8, 6, 8,
+                                                                   5, 6, 10, 6, 6, 6, 4])
 
 
 if __name__ == "__main__":

@@ -7,8 +7,8 @@ import unittest
 from copy import deepcopy
 from pathlib import Path
 
-from tests.support import ERRORS, FUNCTIONS, as_lists, has_list, inner_lists, mixed_lists, outer_list
-from undermasters import errors
+from tests.support import ERRORS, FUNCTIONS, METHODS, as_lists, has_list, inner_lists, mixed_lists, outer_list
+from undermasters import board, errors
 
 PACKAGE = Path(__file__).resolve().parent.parent / "undermasters"
 
@@ -27,6 +27,16 @@ OWN = ((1, 0, 1), (1, 2, 0), (2, 0, 2))
 LOUD = ((0, 1, 1), (1, 0, 1), (2, 0, 0), (2, 1, 0), (2, 2, 1))
 WORN = (1, 0, 0)
 WORN_OWN = ((0, 2, 2), (0, 3, 2), (3, 0, 0))
+HOME = ((3, 3), PEOPLE, (("attic", ("ann", "bob")), ("den", ("cy",)), ("hut", ("bob", "cy", "dee"))))
+LONE = ((3, 3), PEOPLE[:1], (("den", ("ann",)),))
+GRAND = ((0, 0, 0),)
+WINGS = (("east", ((0, 0, 1),), ((2, 2, 2), (2, 3, 2))), ("west", ((0, 1, 0), (0, 2, 0)), ((3, 2, 2),)))
+BARE = (("a", (), ((1, 1, 1),)), ("b", (), ()))
+PLAN = "4 4 3\n0-0-0, 0-1-0\n1-0-1, 1-2-0"
+
+# The NAMEs of a person of HOME and of others, also such as are nobody's or this person's own.
+LOSSES = (("cy", ("ann",)), ("cy", ()), ("cy", ("bob", "dee")), ("dee", ()), ("eve", ("fay",)), ("cy", ("ann", "cy", "eve")))
+STRAYED = (*WINGS, ("yard", ((1, 2, 2),), ((1, 3, 2), (2, 0, 2))))
 
 # For each function calls with tuples wherever the document states tuples.
 CALLS = {
@@ -142,13 +152,73 @@ CALLS = {
     "worn_share": [{**HOUSE, "worn": WORN, "own": own} for own in (WORN_OWN, LOUD, ())],
     "wears_to": [{"common": COMMON, "own": own} for own in (WORN_OWN, LOUD, WORN_OWN[:1], ())],
     "worn_rest": [{**HOUSE, "worn": WORN, "own": own} for own in (WORN_OWN, ())],
+    "without_person": [{"hall": HOME, "person": person} for person in ("cy", "bob", "eve")],
+    "still_opens": [{"hall": HOME, "person": person} for person in ("cy", "dee", "eve")] + [{"hall": LONE, "person": "ann"}],
+    "is_enough": [{"hall": HOME, "person": person, "names": names} for person, names in LOSSES],
+    "shut_by": [{"hall": HOME, "person": person, "names": names} for person, names in LOSSES],
+    "fewest_anew": [{"hall": HOME, "person": person} for person in ("cy", "dee", "eve")] + [{"hall": LONE, "person": "ann"}],
+    "dearest_losses": [{"hall": HOME}, {"hall": LONE}],
+    "doors_anew": [{"hall": HOME, "person": person, "names": names} for person, names in LOSSES],
+    "cut_anew": [{"hall": HOME, "person": person, "names": names} for person, names in LOSSES],
+    "cost_of": [{**HOUSE, "key": key} for key in ((1, 0, 0), (3, 3, 2), (0, 1, 0))],
+    "costs_nothing": [{**HOUSE, "key": key} for key in ((1, 0, 0), (3, 3, 2), (0, 1, 0))],
+    "with_new_at": [{**HOUSE, "pins": pins} for pins in ((), (1,), (0, 1, 2))],
+    "best_pins": [{**HOUSE, "many": many} for many in (-1, 0, 1, 2, 3, 4)],
+    "least_cost": [{**HOUSE, "many": many} for many in (-1, 0, 1, 2, 3, 4)],
+    "is_fit": [{"own": OWN, "key": key} for key in ((3, 1, 1), (1, 0, 0), (2, 0, 2))],
+    "unfit_pair": [{"own": OWN, "key": key} for key in ((3, 1, 1), (1, 0, 0), (2, 0, 2))],
+    "how_many_fit": [{"depths": LOCK, "own": own} for own in (OWN, LOUD)],
+    "nth_fit": [{"depths": LOCK, "own": OWN, "number": number} for number in (0, 7, 48, -1)],
+    "number_of_fit": [{"depths": LOCK, "own": OWN, "key": key} for key in ((3, 1, 1), (1, 0, 0))],
+    "are_wings": [{"depths": LOCK, "grand": grand, "thing": thing} for grand in (GRAND, ())
+                  for thing in (WINGS, list(WINGS), BARE, WINGS[::-1], (["east", (), ()],), (("east", [], ()),))],
+    "wing_names": [{"wings": WINGS}],
+    "room_in": [{"grand": GRAND, "wings": WINGS, "name": name, "key": key}
+                for name, key in (("east", (2, 3, 2)), ("east", (3, 2, 2)), ("north", (2, 3, 2)))],
+    "opened_rooms": [{"grand": GRAND, "wings": WINGS, "key": key} for key in ((0, 0, 0), (0, 0, 1), (2, 2, 1), (3, 3, 0))],
+    "strays": [{"grand": grand, "wings": wings} for grand in (GRAND, ()) for wings in (WINGS, BARE, STRAYED)],
+    "kept_wings": [{"grand": grand, "wings": wings} for grand in (GRAND, ()) for wings in (WINGS, BARE, STRAYED)],
+    "most_in": [{"depths": LOCK, "grand": grand, "wings": wings, "name": name}
+                for grand, wings, name in ((GRAND, WINGS, "east"), ((), BARE, "a"), (GRAND, WINGS, "north"))],
+    "share_in": [{"depths": LOCK, "grand": grand, "wings": wings, "name": name}
+                 for grand, wings, name in ((GRAND, WINGS, "east"), ((), BARE, "a"), (GRAND, WINGS, "north"))],
+    "is_open_to": [{"grand": GRAND, "wings": WINGS, "name": name, "key": key}
+                   for name in ("east", "north") for key in ((1, 3, 2), (2, 2, 1), (0, 0, 0), (0, 1, 0))],
+    "how_many_open_to": [{"depths": LOCK, "grand": GRAND, "wings": WINGS, "name": name} for name in ("west", "north")],
+    "nth_open_to": [{"depths": LOCK, "grand": GRAND, "wings": WINGS, "name": name, "number": number}
+                    for name in ("west", "north") for number in (0, 3, 48, -1)],
+    "with_room": [{"grand": GRAND, "wings": WINGS, "name": name, "key": (2, 2, 1)} for name in ("east", "north")],
+    "without_room": [{"wings": WINGS, "name": name, "key": key}
+                     for name, key in (("east", (2, 3, 2)), ("east", (3, 2, 2)), ("north", (2, 3, 2)))],
+    "next_key": [{**HOUSE, "own": OWN, "number": number} for number in (-1, 0, 20, 47, 48)],
+    "room_more": [{**HOUSE, "own": own} for own in (OWN, (), ((0, 0, 0),))],
+    "fresh_for": [{**HOUSE, "own": OWN, "key": key} for key in ((1, 2, 0), (1, 1, 0))],
+    "nearest_key": [{**HOUSE, "own": OWN, "key": key} for key in ((1, 2, 0), (1, 1, 0))],
+    "recut": [{"keys": LOUD, "pin": 1, "cuts": (2, 3, 0, 1)}],
+    "reordered": [{"keys": LOUD, "pins": (2, 0, 1)}],
+    "with_pin": [{"keys": LOUD, "pin": pin, "cut": 5} for pin in (0, 2, 3)],
+    "depths_text": [{"depths": LOCK}],
+    "key_text": [{"key": (2, 1, 1)}],
+    "keys_text": [{"keys": keys} for keys in (OWN, ())],
+    "row_text": [{"row": (2, None, 1)}],
+    "door_text": [{"door": GATE}],
+    "plan_text": [{**HOUSE, "own": own} for own in (OWN, ())],
+    "depths_read": [{"text": text} for text in ("4 4 3", "4 1")],
+    "key_read": [{"text": text} for text in ("2-1-1", "2-")],
+    "keys_read": [{"text": text} for text in ("0-1, 1-0", "none", "1-0, 0-1")],
+    "row_read": [{"text": text} for text in ("2-*-1", "2-**")],
+    "door_read": [{"text": text} for text in ("0,1 / 2", "1,0")],
+    "plan_read": [{"text": text} for text in (PLAN, "", PLAN + "\n", "3 3\n0-0")],
+    "is_request": [{"depths": LOCK, "thing": thing} for thing in ("put 1-2-0", "room 3 5", "room 4 5", "", None, ["own"])],
+    "replies": [{**HOUSE, "text": text}
+                for text in ("put 1-0-1\nput 1-2-0\nown\nsizes\nput 0-0-0\nroom 1 0", "own\nput 1", "")],
 }
 
 # Beside those whose names begin with is_, the functions that tell whether something is so.
-WHETHER = ("alike", "opens_room", "opens", "within", "can_be_by_share", "opens_worn")
+WHETHER = ("alike", "opens_room", "opens", "within", "can_be_by_share", "opens_worn", "costs_nothing", "are_wings")
 
 # The functions that return a list.
-LISTS = ("clashes",)
+LISTS = ("clashes", "replies")
 
 
 def outcome(function, *told, **named):
@@ -157,6 +227,19 @@ def outcome(function, *told, **named):
         return repr(function(*told, **named))
     except tuple(getattr(errors, name) for name in ERRORS) as error:
         return f"{type(error).__name__} {vars(error)!r}"
+
+
+def all_needed(file):
+    """The names of all files that this one imports from, straight or through others."""
+    needed, waiting = set(), [file]
+    while waiting:
+        for node in ast.parse((PACKAGE / f"{waiting.pop()}.py").read_text(encoding="ascii")).body:
+            if isinstance(node, ast.ImportFrom) and node.module.startswith("undermasters."):
+                other = node.module.split(".")[1]
+                if other not in needed:
+                    needed.add(other)
+                    waiting.append(other)
+    return needed
 
 
 def in_form(form, named):
@@ -222,8 +305,8 @@ class EveryFunction(unittest.TestCase):
 
     def test_lists_are_new(self):
         for function, named in self.each_call():
-            if function.__name__ in LISTS:
-                expected = outcome(function, **named)
+            expected = outcome(function, **named)
+            if function.__name__ in LISTS and expected.startswith("["):
                 function(**named).append("more")
                 self.assertEqual(outcome(function, **named), expected)
 
@@ -249,8 +332,28 @@ class Interface(unittest.TestCase):
                     self.assertEqual(parameter.kind, parameter.POSITIONAL_OR_KEYWORD, name)
                     self.assertEqual(parameter.default, parameter.empty, name)
 
+    def test_methods(self):
+        tree = ast.parse((PACKAGE / "board.py").read_text(encoding="ascii"))
+        kind = [node for node in tree.body if isinstance(node, ast.ClassDef) and node.name == "Board"][0]
+        defined = [node.name for node in kind.body if isinstance(node, ast.FunctionDef)]
+        self.assertEqual(list(inspect.signature(board.Board).parameters), ["depths", "common"])
+        for name, parameters in METHODS.items():
+            self.assertIn(name, defined)
+            signature = inspect.signature(getattr(board.Board, name))
+            self.assertEqual(list(signature.parameters), ["self", *parameters], name)
+            for parameter in signature.parameters.values():
+                self.assertEqual(parameter.kind, parameter.POSITIONAL_OR_KEYWORD, name)
+                self.assertEqual(parameter.default, parameter.empty, name)
+
+    def test_files_in_their_order(self):
+        # each file of the interface needs only those ahead of it, also through files that are not listed
+        files = ["errors", *FUNCTIONS]
+        for at, file in enumerate(files):
+            needed = all_needed(file)
+            self.assertEqual([other for other in files[at + 1:] if other in needed], [], file)
+
     def test_defined_in_their_files(self):
-        for file, names in {**FUNCTIONS, "errors": ERRORS}.items():
+        for file, names in {**FUNCTIONS, "errors": ERRORS, "board": ["Board"]}.items():
             body = ast.parse((PACKAGE / f"{file}.py").read_text(encoding="ascii")).body
             defined = [node.name for node in body if isinstance(node, (ast.FunctionDef, ast.ClassDef))]
             self.assertEqual([name for name in names if name not in defined], [], file)

@@ -5,6 +5,8 @@ import builtins
 import unittest
 from pathlib import Path
 
+from tests.support import ERRORS
+
 PACKAGE = Path(__file__).resolve().parent.parent / "undermasters"
 
 LIBRARY = {
@@ -159,6 +161,26 @@ class Form(unittest.TestCase):
             if isinstance(call, ast.Call):
                 called = call.func.id if isinstance(call.func, ast.Name) else call.func.attr
                 self.assertNotIn(called, kept, (name, node.lineno))
+
+    def test_what_a_package_with_operators_must_not_have(self):
+        # there is a class with __eq__, __len__ and __contains__
+        self.assertEqual(nodes_of((ast.GeneratorExp, ast.Yield, ast.YieldFrom, ast.Match, ast.With)), [])
+        for name, node in nodes_of(ast.Attribute):
+            self.assertNotIn(node.attr, ("sort", "add", "discard"), (name, node.lineno))
+
+    def test_caught_errors_are_own_ones(self):
+        for name, node in nodes_of(ast.ExceptHandler):
+            self.assertIn(node.type.id, ERRORS, (name, node.lineno))
+            self.assertIsNone(node.name, (name, node.lineno))
+
+    def test_methods_and_attributes_of_classes(self):
+        # a name that is a method in one class is no attribute in any
+        methods, attributes = [], []
+        for _, kind in nodes_of(ast.ClassDef):
+            methods.extend([node.name for node in kind.body if isinstance(node, ast.FunctionDef)])
+            attributes.extend([node.attr for node in ast.walk(kind)
+                               if isinstance(node, ast.Attribute) and isinstance(node.ctx, ast.Store)])
+        self.assertEqual(set(methods) & set(attributes), set())
 
     def test_is(self):
         for name, node in nodes_of(ast.Compare):

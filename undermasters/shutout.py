@@ -1,7 +1,7 @@
 """The KEYS that open none of several DOORs: how many there are, also of each RANK, and their numbers."""
 
 from undermasters.basics import all_marked, how_many_choices, place_in
-from undermasters.cuts import common_cuts
+from undermasters.cuts import common_cuts, how_many_keys, nth_key
 from undermasters.doors import door_for
 from undermasters.errors import NoNumber
 
@@ -99,10 +99,14 @@ def ranks_shut_out(depths, common, doors):
 def nth_shut_out(depths, doors, number):
     """The KEY with this number, from 0, ascending, of those that open no DOOR; raises NoNumber if there is none."""
     ends = counted(depths, doors)
-    marks = ends.every
-    if not 0 <= number < ends.weigh(0, marks):
+    if not 0 <= number < ends.weigh(0, ends.every):
         raise NoNumber(number)
-    key, left = [], number
+    return nth_of_ends(ends, number)
+
+
+def nth_of_ends(ends, number):
+    """The KEY with this number of those that open no DOOR; there must be one."""
+    key, left, marks = [], number, ends.every
     for pin, row in enumerate(ends.lets):
         cut, left = place_in([ends.weigh(pin + 1, marks & here) for here in row], left)
         key.append(cut)
@@ -112,10 +116,24 @@ def nth_shut_out(depths, doors, number):
 
 def number_shut_out(depths, doors, key):
     """The number of this KEY among those that open none of the DOORs; None if it opens one of them."""
-    ends = counted(depths, doors)
+    number, marks = below_and_opened(counted(depths, doors), key)
+    return number if marks == 0 else None
+
+
+def below_and_opened(ends, key):
+    """How many of the KEYS that open no DOOR are less than this KEY, and the marks of the DOORs that it opens."""
     number, marks = 0, ends.every
     for pin, cut in enumerate(key):
         row = ends.lets[pin]
         number += sum([ends.weigh(pin + 1, marks & here) for here in row[:cut]])
         marks = marks & row[cut]
-    return number if marks == 0 else None
+    return (number, marks)
+
+
+def least_shut_out(depths, doors, number):
+    """The KEY with the least number, from this one on, that opens none of the DOORs; None if there is none."""
+    if number >= how_many_keys(depths):
+        return None
+    ends = counted(depths, doors)
+    below, _ = below_and_opened(ends, nth_key(depths, max(0, number)))
+    return nth_of_ends(ends, below) if below < ends.weigh(0, ends.every) else None
