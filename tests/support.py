@@ -320,10 +320,17 @@ def inner_lists(value):
 
 
 def mixed_lists(value):
-    """The same with a list in the place of every second tuple at each depth."""
+    """The same with lists in the place of every second tuple in it, at each depth, and in its own place."""
     if not isinstance(value, tuple):
         return value
-    return [as_lists(part) if at % 2 == 0 else mixed_lists(part) for at, part in enumerate(value)]
+    return [as_lists(part) if at % 2 == 0 else part for at, part in enumerate(value)]
+
+
+def other_mixed_lists(value):
+    """Likewise, but for the other ones of the tuples in it, and not in its own place."""
+    if not isinstance(value, tuple):
+        return value
+    return tuple(as_lists(part) if at % 2 == 1 else mixed_lists(part) for at, part in enumerate(value))
 
 
 def has_list(value):

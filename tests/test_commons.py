@@ -187,6 +187,15 @@ class Fit(unittest.TestCase):
                 for _ in range(8):
                     self.hold_against_listing(depths, tuple(sorted(draw.sample(keys_of(depths), many))))
 
+    def test_own_in_another_order(self):
+        # none twice is all that is asked of them
+        own = ((2, 0), (0, 1), (0, 0), (1, 1))
+        for key in keys_of((3, 3)):
+            self.assertEqual(commons.unfit_pair(own, key), least_pair(own, key))
+            self.assertEqual(commons.is_fit(own, key), commons.is_fit(tuple(sorted(own)), key))
+            self.assertEqual(commons.number_of_fit((3, 3), own, key),
+                             commons.number_of_fit((3, 3), tuple(sorted(own)), key))
+
     def test_a_cut_that_the_depths_have_not(self):
         self.assertIs(commons.is_fit(((0, 0), (0, 1)), (5, 5)), True)
         self.assertEqual(commons.unfit_pair(((0, 0), (0, 1)), (5, 1)), ((0, 1), (0, 0)))

@@ -6,8 +6,10 @@ import inspect
 import unittest
 from copy import deepcopy
 from pathlib import Path
+from random import Random
 
-from tests.support import ERRORS, FUNCTIONS, METHODS, as_lists, has_list, inner_lists, mixed_lists, outer_list
+from tests.support import ERRORS, FUNCTIONS, METHODS, as_lists, has_list, inner_lists, mixed_lists, other_mixed_lists
+from tests.support import outer_list
 from undermasters import board, errors
 
 PACKAGE = Path(__file__).resolve().parent.parent / "undermasters"
@@ -270,10 +272,24 @@ class EveryFunction(unittest.TestCase):
     def test_lists_for_tuples(self):
         for function, named in self.each_call():
             expected = outcome(function, **named)
-            for form in (as_lists, outer_list, inner_lists, mixed_lists):
+            for form in (as_lists, outer_list, inner_lists, mixed_lists, other_mixed_lists):
                 told = in_form(form, named)
                 self.assertEqual(outcome(function, **told), expected, (function, told))
                 self.assertEqual(outcome(function, *told.values()), expected, (function, told))
+
+    def test_lists_at_random(self):
+        draw = Random(2)
+
+        def drawn_lists(value):
+            if not isinstance(value, (list, tuple)):
+                return value
+            return draw.choice((list, tuple))([drawn_lists(part) for part in value])
+
+        for function, named in self.each_call():
+            expected = outcome(function, **named)
+            for _ in range(12):
+                told = in_form(drawn_lists, named)
+                self.assertEqual(outcome(function, **told), expected, (function, told))
 
     def test_lists_for_single_arguments(self):
         for function, named in self.each_call():
@@ -285,7 +301,7 @@ class EveryFunction(unittest.TestCase):
 
     def test_arguments_stay_as_they_were(self):
         for function, named in self.each_call():
-            for form in (deepcopy, as_lists, outer_list, inner_lists, mixed_lists):
+            for form in (deepcopy, as_lists, outer_list, inner_lists, mixed_lists, other_mixed_lists):
                 told = in_form(form, named)
                 before = repr(told)
                 outcome(function, **told)

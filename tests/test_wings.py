@@ -275,6 +275,8 @@ class OpenTo(unittest.TestCase):
         self.assertIs(wings.is_open_to(((0, 0),), told, "a", (0, 0)), False)
         self.assertIs(wings.is_open_to(((0, 0),), told, "b", (1, 1)), False)
         self.assertIs(wings.is_open_to(((0, 0),), told, "a", (0, 1)), True)
+        self.assertIs(wings.is_open_to([[0, 0]], told, "a", [1, 1]), False)
+        self.assertIs(wings.is_open_to([[0, 0]], told, "a", [0, 0]), False)
         self.assertEqual(wings.how_many_open_to((2, 2), ((0, 0),), told, "a"), 2)
 
     def test_put_in(self):

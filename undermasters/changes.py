@@ -1,6 +1,6 @@
 """KEYS changed: other KEYS in the place of quiet OWN KEYS, and all KEYS cut anew alike."""
 
-from undermasters.basics import all_marked, as_tuples
+from undermasters.basics import all_marked
 from undermasters.doors import door_for
 from undermasters.errors import NoKey
 from undermasters.more import barred_doors
@@ -84,4 +84,5 @@ def reordered(keys, pins):
 
 def with_pin(keys, pin, cut):
     """The KEYS with one pin more, the one with this number, at which all have this cut."""
-    return as_tuples(sorted([(*key[:pin], cut, *key[pin:]) for key in keys]))
+    # with the same cut in all of them the KEYS stay ascending
+    return tuple([(*key[:pin], cut, *key[pin:]) for key in keys])

@@ -93,14 +93,14 @@ def opening_commons(depths, one, other):
 
 def how_many_fit(depths, own):
     """How many KEYS are fit for own."""
-    return how_many_shut_out(depths, unfit_doors(depths, as_tuples(own)))
+    return how_many_shut_out(depths, unfit_doors(depths, own))
 
 
 def nth_fit(depths, own, number):
     """The fit KEY with this number, from 0, ascending; raises NoNumber if there is none."""
-    return nth_shut_out(depths, unfit_doors(depths, as_tuples(own)), number)
+    return nth_shut_out(depths, unfit_doors(depths, own), number)
 
 
 def number_of_fit(depths, own, key):
     """The number of this KEY among the fit ones; None if it is not fit."""
-    return number_shut_out(depths, unfit_doors(depths, as_tuples(own)), key)
+    return number_shut_out(depths, unfit_doors(depths, own), key)

@@ -75,7 +75,7 @@ def keys_in(text):
 def row_in(text):
     """The tuple of numbers and of None with this text."""
     parts = text.split("-")
-    cuts = [None if part == "*" else number_in(part) for part in parts]
+    cuts = [number_in(part) for part in parts]
     wrong = any([cut is None and part != "*" for cut, part in zip(cuts, parts)])
     return None if wrong else tuple(cuts)
 
